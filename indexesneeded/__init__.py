@@ -1,0 +1,1 @@
+"""Which indexes a set of questions needs."""
