@@ -40,13 +40,20 @@ def costs_by_index(model, question):
     return costs
 
 
+def costs_with(costs, oftens):
+    """The same costs, but with the questions asked so often."""
+    return Costs(oftens, costs.table_costs, costs.index_costs, costs.upkeeps, costs.rooms)
+
+
+def one_asking_cost(costs, question, chosen):
+    """What one asking of the question of this number costs by its best way with the set."""
+    by_index = costs.index_costs[question]
+    return min([costs.table_costs[question]] + [by_index[number] for number in chosen if number in by_index])
+
+
 def askings_cost(costs, chosen):
     """What all askings of all questions cost with the set."""
-    total = 0
-    for often, table_cost, by_index in zip(costs.oftens, costs.table_costs, costs.index_costs):
-        best = min([table_cost] + [by_index[number] for number in chosen if number in by_index])
-        total += often * best
-    return total
+    return sum([often * one_asking_cost(costs, question, chosen) for question, often in enumerate(costs.oftens)])
 
 
 def upkeep_cost(costs, chosen):
@@ -82,16 +89,37 @@ def ordered_sets(count):
     return sorted(sets, key=lambda chosen: (len(chosen), chosen))
 
 
+def sets_within(costs, room):
+    """All sets within the room, in order; the first one is that of no index."""
+    return [chosen for chosen in ordered_sets(len(costs.rooms)) if set_room(costs, chosen) <= room]
+
+
+def cheapest(costs, sets):
+    """Those of the sets that cost least, as they stand; empty only if there are no sets."""
+    found = []
+    least_cost = 0
+    for chosen in sets:
+        cost = set_cost(costs, chosen)
+        if not found or cost < least_cost:
+            found = []
+            least_cost = cost
+        if cost == least_cost:
+            found.append(chosen)
+    return found
+
+
 def least_sets(costs, room):
     """The least sets within the room, in order."""
-    least = []
-    least_cost = 0
-    for chosen in ordered_sets(len(costs.rooms)):
-        if set_room(costs, chosen) <= room:
-            cost = set_cost(costs, chosen)
-            if not least or cost < least_cost:
-                least = []
-                least_cost = cost
-            if cost == least_cost:
-                least.append(chosen)
-    return least
+    return cheapest(costs, sets_within(costs, room))
+
+
+def kept_sets(costs, room, question, most):
+    """The cheapest of those sets within the room with which one asking of the question costs no more than most."""
+    keeping = [chosen for chosen in sets_within(costs, room) if one_asking_cost(costs, question, chosen) <= most]
+    return cheapest(costs, keeping)
+
+
+def worth_with(costs, number, chosen):
+    """How much more all askings cost with the set without the index than with the set and it."""
+    without = [other for other in chosen if other != number]
+    return askings_cost(costs, without) - askings_cost(costs, without + [number])

@@ -60,6 +60,12 @@ def equal_columns(question):
     return [told[0] for told in question.filters if told[1] == told[2]]
 
 
+def without_equal(question, columns):
+    """The columns that the question doesn't hold to a single value, in their order."""
+    equal = equal_columns(question)
+    return [column for column in columns if column not in equal]
+
+
 def needed_columns(question):
     """The columns of filters, order and wishes; one may stand there more than once."""
     return [told[0] for told in question.filters] + question.order + question.wanted

@@ -1,24 +1,34 @@
 """The calls on one object, and what they answer."""
 
-from indexesneeded.choices import askings_cost, costs_of, least_sets, rises_below, set_cost, set_room, upkeep_cost
+from indexesneeded.candidates import candidate_numbers, candidates_of
+from indexesneeded.choices import askings_cost, costs_of, kept_sets, least_sets, rises_below, set_cost, set_room
+from indexesneeded.choices import upkeep_cost, worth_with
 from indexesneeded.faults import Fault
-from indexesneeded.model import GREATEST_OFTEN
+from indexesneeded.margins import margin_of
+from indexesneeded.model import GREATEST_OFTEN, index_room
+from indexesneeded.outdoing import outdone_indexes
 from indexesneeded.parts import answered_parts
-from indexesneeded.proofs import SPLIT, made_proof
-from indexesneeded.reading import read_text
+from indexesneeded.plans import least_plans
+from indexesneeded.proofs import SPLIT, is_accepted, is_proof, made_proof
+from indexesneeded.reading import MOST_INDEXES, read_text
 from indexesneeded.ways import best_way
-from indexesneeded.writes import read_write
+from indexesneeded.writes import read_write, upkeep
 
 LONGEST_TEXT = 1200
 MOST_WRITES = 6
 MOST_DAYS = 6
+MOST_PLANNED_INDEXES = 5
 GREATEST_ROOM = 1000000000
+GREATEST_KEPT_COST = 1000000000
 
 NOT_IN_FORM = -1
 NO_QUESTION = -2
 NO_INDEX = -3
+NO_PROOF = -4
+NO_CANDIDATE = -4
 OUT_OF_BOUNDS = -5
 TOO_MANY = -6
+TOO_MANY_TO_PLAN = -7
 NO_TEXT = -8
 
 LOAD = 0
@@ -128,6 +138,95 @@ def prove(keeper, numbers, told):
     return [least_cost, len(ends)] + proof
 
 
+def check(keeper, numbers, told):
+    """Whether a proof is accepted for a told cost."""
+    if numbers[0] < 0:
+        return [OUT_OF_BOUNDS]
+    if not is_proof(told):
+        return [NO_PROOF]
+    costs = costs_of(keeper.model, keeper.writes)
+    return [1 if is_accepted(costs, keeper.room, numbers[0], told) else 0]
+
+
+def margin(keeper, numbers, told):
+    """The least and the greatest number of a question's askings that leave the first least set least."""
+    if not has_question(keeper.model, numbers[0]):
+        return [NO_QUESTION]
+    ends = margin_of(costs_of(keeper.model, keeper.writes), keeper.room, numbers[0])
+    return list(ends[0]) + list(ends[1])
+
+
+def kept(keeper, numbers, told):
+    """The first least of the sets that keep a question's cost."""
+    if not has_question(keeper.model, numbers[0]):
+        return [NO_QUESTION]
+    if numbers[1] < 0 or numbers[1] > GREATEST_KEPT_COST:
+        return [OUT_OF_BOUNDS]
+    costs = costs_of(keeper.model, keeper.writes)
+    sets = kept_sets(costs, keeper.room, numbers[0], numbers[1])
+    if not sets:
+        return [0]
+    return [1, set_cost(costs, sets[0]), len(sets[0])] + sets[0]
+
+
+def outdone(keeper, numbers, told):
+    """Which indexes are outdone, and by which ones."""
+    found = outdone_indexes(costs_of(keeper.model, keeper.writes))
+    given = [len(found)]
+    for both in found:
+        given.extend(both)
+    return given
+
+
+def worth(keeper, numbers, told):
+    """An index's worth with a set, and its upkeep."""
+    count = len(keeper.model.indexes)
+    if numbers[0] < 0 or numbers[0] >= count:
+        return [NO_INDEX]
+    if not rises_below(told, count):
+        return [NO_INDEX]
+    costs = costs_of(keeper.model, keeper.writes)
+    return [worth_with(costs, numbers[0], told), costs.upkeeps[numbers[0]]]
+
+
+def candidates(keeper, numbers, told):
+    """The indexes that a question suggests."""
+    if not has_question(keeper.model, numbers[0]):
+        return [NO_QUESTION]
+    found = candidates_of(keeper.model.questions[numbers[0]])
+    given = [len(found)]
+    for candidate in found:
+        given.extend(candidate_numbers(candidate))
+    return given
+
+
+def make(keeper, numbers, told):
+    """Puts a question's candidate behind the indexes."""
+    model = keeper.model
+    if not has_question(model, numbers[0]):
+        return [NO_QUESTION]
+    found = candidates_of(model.questions[numbers[0]])
+    if numbers[1] < 0 or numbers[1] >= len(found):
+        return [NO_CANDIDATE]
+    if len(model.indexes) == MOST_INDEXES:
+        return [TOO_MANY]
+    made = found[numbers[1]]
+    model.indexes.append(made)
+    return [len(model.indexes) - 1, index_room(made, model.groups), upkeep(made, keeper.writes)]
+
+
+def plan(keeper, numbers, told):
+    """What least plans cost, how many there are, and the first one."""
+    if len(keeper.model.indexes) > MOST_PLANNED_INDEXES:
+        return [TOO_MANY_TO_PLAN]
+    plans = least_plans(costs_of(keeper.model, keeper.writes), keeper.days, keeper.room)
+    given = [plans.cost, plans.how_many, len(plans.sets)]
+    for chosen in plans.sets:
+        given.append(len(chosen))
+        given.extend(chosen)
+    return given
+
+
 def has_question(model, number):
     """Whether there's a question of this number."""
     return 0 <= number < len(model.questions)
@@ -144,6 +243,14 @@ CALLS = (
     (total, 0, 1),
     (least, 0, 0),
     (prove, 0, 0),
+    (check, 1, 1),
+    (margin, 1, 0),
+    (kept, 2, 0),
+    (outdone, 0, 0),
+    (worth, 1, 1),
+    (candidates, 1, 0),
+    (make, 2, 0),
+    (plan, 0, 0),
 )
 
 

@@ -1,6 +1,7 @@
 """What a question costs by the whole table and by an index."""
 
 from indexesneeded.model import entry_groups, equal_columns, index_columns, needed_columns, passes_all, values_at
+from indexesneeded.model import without_equal
 
 WHOLE_TABLE = -1
 
@@ -95,12 +96,6 @@ def touch(groups, question, free, filters):
         if limit > 0 and found == limit:
             break
     return (touched, looked_up, found)
-
-
-def without_equal(question, columns):
-    """The columns that the question doesn't hold to a single value, in their order."""
-    equal = equal_columns(question)
-    return [column for column in columns if column not in equal]
 
 
 def order_is_free(index, question):

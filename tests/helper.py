@@ -49,6 +49,38 @@ def prove():
     return [8]
 
 
+def check(cost, *proof):
+    return [9, cost, *listed(proof)]
+
+
+def margin(question):
+    return [10, question]
+
+
+def kept(question, cost):
+    return [11, question, cost]
+
+
+def outdone():
+    return [12]
+
+
+def worth(index, *chosen):
+    return [13, index, *listed(chosen)]
+
+
+def candidates(question):
+    return [14, question]
+
+
+def make(question, candidate):
+    return [15, question, candidate]
+
+
+def plan():
+    return [16]
+
+
 def joined(calls):
     return [number for call in calls for number in call]
 

@@ -2,23 +2,37 @@
 
 import unittest
 
-from tests.helper import EXAMPLE, answer, day, last, least, load, prove, room, run, total, way, write
+from tests.helper import (
+    EXAMPLE, answer, candidates, check, day, kept, last, least, load, make, margin, outdone, plan, prove, room, run,
+    total, way, worth, write,
+)
 
 HUGE = 10 ** 18
 
 
 class WithoutAText(unittest.TestCase):
     def test_all_others_are_refused(self):
-        calls = (write(0, 1, 1, 5), room(5), day(1, 1), way(0), answer(0), total(), least(), prove())
+        calls = (
+            write(0, 1, 1, 5), room(5), day(1, 1), way(0), answer(0), total(), least(), prove(), check(5, 1), margin(0),
+            kept(0, 5), outdone(), worth(0), candidates(0), make(0, 0), plan(),
+        )
         self.assertEqual(run(*calls), [[-8]] * len(calls))
 
     def test_that_comes_ahead_of_all_other_refusals(self):
-        calls = (write(), room(-1), day(), way(-1, 5), way(0, 1, 0), answer(99), total(8))
+        calls = (
+            write(), room(-1), day(), way(-1, 5), way(0, 1, 0), answer(99), total(8), check(-1, 1), check(5), margin(9),
+            kept(9, 5), kept(0, -1), worth(9), worth(0, 9), candidates(9), make(9, 0), make(0, 9),
+        )
         self.assertEqual(run(*calls), [[-8]] * len(calls))
 
     def test_nothing_is_changed_by_it(self):
-        found = run(write(0, 1, 1, 5), room(60), day(1, 1), load(EXAMPLE), total(1), least(), write(0, 1, 1, 5), day(1, 1))
-        self.assertEqual(found[3:], [[0, 2, 4, 2, 2], [24, 0, 30], [215, 1, 0], [0], [0]])
+        refused = (write(0, 1, 1, 5), room(60), day(1, 1), make(0, 0))
+        found = run(*refused, load(EXAMPLE), total(1), least(), total(2), write(0, 1, 1, 5), day(1, 1))
+        self.assertEqual(found[4:], [[0, 2, 4, 2, 2], [24, 0, 30], [215, 1, 0], [-3], [0], [0]])
+
+    def test_a_text_with_a_fault_is_none(self):
+        calls = (least(), outdone(), plan(), check(0, 1))
+        self.assertEqual(run(load("table (a)"), *calls), [[1, 2, 9]] + [[-8]] * len(calls))
 
 
 class Writes(unittest.TestCase):

@@ -1,9 +1,13 @@
 """Made-up texts, answered a second time row by row as the words tell it."""
 
+import fractions
 import itertools
 import unittest
 
-from tests.helper import answer, last, least, load, prove, room, run, total, way, write
+from tests.helper import (
+    answer, candidates, check, day, kept, last, least, load, make, margin, outdone, plan, prove, room, run, total, way,
+    worth, write,
+)
 
 COLUMNS = "abcd"
 WORLDS = 120
@@ -158,8 +162,28 @@ def upkeep(index, writes, width):
     return cost
 
 
+def suggested(question):
+    """The candidates' keys and included columns, as pairs."""
+    filters, order, back, wanted, limit, often = question
+    needed = list(dict.fromkeys([told[0] for told in filters] + order + wanted))
+    equal = [column for column, low, high in filters if low == high]
+    free_order = [column for column in order if column not in equal]
+    keys = []
+    if free_order:
+        keys.append(equal + free_order)
+    for column, low, high in filters:
+        if low != high:
+            keys.append(equal + [column])
+    if not keys:
+        keys = [equal] if equal else [needed[:1]] if needed else [[0]]
+    pairs = []
+    for one in keys:
+        pairs += [(tuple(one), ()), (tuple(one), tuple(column for column in needed if column not in one))]
+    return list(dict.fromkeys(pairs))
+
+
 class World:
-    """A made-up text with writes and a room."""
+    """A made-up text with writes, days and a room."""
 
     def __init__(self, seed):
         numbers = Numbers(seed)
@@ -177,20 +201,24 @@ class World:
             sum(1 + len(keys) + len(included) for row in self.rows if not condition or passing(row, [condition]))
             for keys, included, condition in self.indexes]
         self.room = numbers.below(sum(self.rooms) + 2)
+        self.days = [[numbers.below(5) for question in self.questions] for turn in range(numbers.below(4))]
         self.calls = [load(self.text), room(self.room)] + [write(*told) for told in self.writes]
+        self.calls += [day(*told) for told in self.days]
         self.numbers = numbers
         # What one asking costs is taken once for each way, as no set changes it.
         self.prices = [
             [best(self.rows, question, self.indexes, [number])[4] for number in range(len(self.indexes))]
             + [by_table(self.rows, question)[4]] for question in self.questions]
 
-    def askings(self, chosen):
-        return sum(
-            question[5] * min([price[-1]] + [price[number] for number in chosen])
-            for question, price in zip(self.questions, self.prices))
+    def price(self, question, chosen):
+        return min(self.prices[question][number] for number in [-1, *chosen])
 
-    def cost(self, chosen):
-        return self.askings(chosen) + sum(self.upkeeps[number] for number in chosen)
+    def askings(self, chosen, oftens=None):
+        oftens = [question[5] for question in self.questions] if oftens is None else oftens
+        return sum(often * self.price(question, chosen) for question, often in enumerate(oftens))
+
+    def cost(self, chosen, oftens=None):
+        return self.askings(chosen, oftens) + sum(self.upkeeps[number] for number in chosen)
 
     def taken(self, chosen):
         return sum(self.rooms[number] for number in chosen)
@@ -198,6 +226,107 @@ class World:
     def sets(self):
         numbers = range(len(self.indexes))
         return [list(chosen) for size in range(len(numbers) + 1) for chosen in itertools.combinations(numbers, size)]
+
+    def within(self):
+        return [chosen for chosen in self.sets() if self.taken(chosen) <= self.room]
+
+    def margin(self, question):
+        """Of all places where the first least set may begin or cease to be least, the first and the last where it is."""
+        def cost(chosen, often):
+            return self.cost(chosen, [
+                often if number == question else other[5] for number, other in enumerate(self.questions)])
+
+        within = self.within()
+        first = min(within, key=self.cost)
+        places = {fractions.Fraction(0)}
+        for other in within:
+            dearer = self.price(question, first) - self.price(question, other)
+            if dearer:
+                place = fractions.Fraction(cost(other, 0) - cost(first, 0), dearer)
+                places |= {place} if place >= 0 else set()
+        beyond = max(places) + 1
+        good = [place for place in sorted(places | {beyond}) if all(
+            cost(first, place) <= cost(other, place) for other in within)]
+        ends = [(place.numerator, place.denominator) for place in (good[0], good[-1])]
+        return [*ends[0], *((-1, 0) if good[-1] == beyond else ends[1])]
+
+    def kept(self, question, most):
+        keeping = [chosen for chosen in self.within() if self.price(question, chosen) <= most]
+        if not keeping:
+            return [0]
+        first = min(keeping, key=self.cost)
+        return [1, self.cost(first), len(first), *first]
+
+    def outdone(self):
+        def ways(number):
+            """What each question that's served costs, by the question's number."""
+            told = [by_index(self.rows, question, number, self.indexes[number]) for question in self.questions]
+            return {question: one[4] for question, one in enumerate(told) if one}
+
+        served = [ways(number) for number in range(len(self.indexes))]
+
+        def outdoes(j, i):
+            if j == i or not set(served[i]) <= set(served[j]):
+                return False
+            pairs = [(served[j][question], served[i][question]) for question in served[i]]
+            pairs += [(self.upkeeps[j], self.upkeeps[i]), (self.rooms[j], self.rooms[i])]
+            if any(one > other for one, other in pairs):
+                return False
+            return any(one < other for one, other in pairs) or set(served[j]) > set(served[i]) or j < i
+
+        found = []
+        for i in range(len(served)):
+            found += [(i, j) for j in range(len(served)) if outdoes(j, i)][:1]
+        return [len(found)] + [number for pair in found for number in pair]
+
+    def worth(self, number, chosen):
+        return [self.askings(set(chosen) - {number}) - self.askings(set(chosen) | {number}), self.upkeeps[number]]
+
+    def plan(self):
+        """None if there are too many plans to go through."""
+        within = self.within()
+        if len(self.indexes) > 5:
+            return [-7]
+        if len(within) ** len(self.days) > 1100:
+            return None
+        costs = []
+        plans = list(itertools.product(within, repeat=len(self.days)))
+        for one in plans:
+            before = set()
+            cost = 0
+            for chosen, oftens in zip(one, self.days):
+                cost += self.cost(chosen, oftens) + self.taken(set(chosen) - before)
+                before = set(chosen)
+            costs.append(cost)
+        first = plans[costs.index(min(costs))]
+        given = [min(costs), costs.count(min(costs)), len(first)]
+        return given + [number for chosen in first for number in (len(chosen), *chosen)]
+
+    def accepts(self, told_cost, proof, looked_at=0, chosen=()):
+        """Whether a whole proof is accepted, and what stands behind it."""
+        sort, *rest = proof
+        if sort == 2:
+            return self.taken(chosen) > self.room, rest
+        if sort == 1:
+            upkeeps = sum(self.upkeeps[number] for number in chosen)
+            return told_cost <= self.askings([*chosen, *range(looked_at, len(self.indexes))]) + upkeeps, rest
+        if looked_at == len(self.indexes):
+            return False, None
+        first, rest = self.accepts(told_cost, rest, looked_at + 1, (*chosen, looked_at))
+        if not first:
+            return False, None
+        return self.accepts(told_cost, rest, looked_at + 1, chosen)
+
+    def made_up_proof(self, looked_at, chosen):
+        """Mostly one that may be accepted."""
+        if self.numbers.below(20) == 0:
+            odd = [[1], [2], [0, 1, 1]][self.numbers.below(3)]
+            return odd if looked_at < 9 else [1]
+        if self.taken(chosen) > self.room:
+            return [2]
+        if looked_at >= len(self.indexes) or self.numbers.below(3) == 0:
+            return [1]
+        return [0, *self.made_up_proof(looked_at + 1, [*chosen, looked_at]), *self.made_up_proof(looked_at + 1, chosen)]
 
     def proof(self, told_cost, looked_at, chosen):
         if self.taken(chosen) > self.room:
@@ -239,13 +368,88 @@ class RowByRow(unittest.TestCase):
     def test_least_sets_and_proofs(self):
         for seed in range(WORLDS):
             world = World(seed)
-            within = [chosen for chosen in world.sets() if world.taken(chosen) <= world.room]
+            within = world.within()
             cost = min(map(world.cost, within))
             sets = [chosen for chosen in within if world.cost(chosen) == cost]
             proof = world.proof(cost, 0, [])
             ends = len(proof) - proof.count(0)
             self.assertEqual(run(*world.calls, least(), prove())[-2:], [
                 [cost, len(sets), len(sets[0]), *sets[0]], [cost, ends, *proof]], seed)
+
+    def test_checks(self):
+        outcomes = []
+        for seed in range(WORLDS):
+            world = World(seed)
+            cost = min(map(world.cost, world.within()))
+            proofs = [world.proof(cost, 0, [])] + [world.made_up_proof(0, []) for turn in range(5)]
+            told = [(cost + move, proof) for proof in proofs for move in (-cost, -1, 0, 1, 9) if cost + move >= 0]
+            told = [one for one in told if len(one[1]) <= 600]
+            expected = [[int(world.accepts(*one)[0])] for one in told]
+            found = [run(*world.calls, check(cost, *proof))[-1] for cost, proof in told]
+            self.assertEqual(found, expected, seed)
+            outcomes += expected
+        self.assertGreater(min(outcomes.count([0]), outcomes.count([1])), WORLDS)
+
+    def test_margins_and_kept_costs(self):
+        for seed in range(WORLDS):
+            world = World(seed)
+            for question in range(len(world.questions)):
+                costs = sorted({cost + move for cost in world.prices[question] for move in (-1, 0)} - {-1})
+                found = run(*world.calls, margin(question), *[kept(question, cost) for cost in costs])
+                expected = [world.margin(question)] + [world.kept(question, cost) for cost in costs]
+                self.assertEqual(found[len(world.calls):], expected, (seed, question))
+
+    def test_outdone_indexes_and_worths(self):
+        for seed in range(WORLDS):
+            world = World(seed)
+            told = [
+                (number, sorted(world.numbers.some(range(len(world.indexes)), 8)))
+                for number in range(len(world.indexes)) for turn in range(2)]
+            found = run(*world.calls, outdone(), *[worth(number, *chosen) for number, chosen in told])
+            expected = [world.outdone()] + [world.worth(number, chosen) for number, chosen in told]
+            self.assertEqual(found[len(world.calls):], expected, seed)
+
+    def test_candidates(self):
+        for seed in range(WORLDS):
+            world = World(seed)
+            for number, question in enumerate(world.questions):
+                pairs = suggested(question)
+                expected = [len(pairs)]
+                for keys, included in pairs:
+                    expected += [len(keys), *keys, len(included), *included, 0]
+                self.assertEqual(last(*world.calls, candidates(number)), expected, (seed, number))
+
+    def test_indexes_that_are_made_are_as_if_told(self):
+        for seed in range(WORLDS):
+            world = World(seed)
+            count = len(world.indexes)
+            if not world.questions or count == 8:
+                continue
+            question = world.numbers.below(len(world.questions))
+            pairs = suggested(world.questions[question])
+            number = world.numbers.below(len(pairs))
+            keys, included = pairs[number]
+            index = f"index made on {written_columns(keys)}" + (" with " if included else "")
+            told = load(world.text + index + written_columns(included) + ";")
+            calls = [total(count), least(), prove(), outdone(), worth(count), plan(), make(question, number)]
+            for other in range(len(world.questions)):
+                calls += [way(other, count), margin(other), kept(other, 5)]
+            made = run(*world.calls, make(question, number), *calls)
+            behind = run(told, *world.calls[1:], *calls)
+            self.assertEqual(made[len(world.calls) + 1:], behind[len(world.calls):], seed)
+            own = (list(keys), list(included), None)
+            rows = len(world.rows) * (1 + len(keys) + len(included))
+            self.assertEqual(made[len(world.calls)], [count, rows, upkeep(own, world.writes, world.width)])
+
+    def test_plans(self):
+        gone_through = 0
+        for seed in range(2 * WORLDS):
+            world = World(seed)
+            expected = world.plan()
+            if expected is not None:
+                self.assertEqual(last(*world.calls, plan()), expected, seed)
+                gone_through += expected != [-7] and len(world.days) > 1 and len(world.within()) > 1
+        self.assertGreater(gone_through, 20)
 
 
 if __name__ == "__main__":
